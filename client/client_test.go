@@ -453,7 +453,9 @@ func acts(t *testing.T, b *book) []act {
 		}
 	}
 	var l []act
-	for who, start := range map[int]string{1: first, 2: begin} {
+	// In one order each time: what an ideal sealer draws hangs on it.
+	for k, start := range []string{first, begin} {
+		who := k + 1
 		l = append(l,
 			act{"Edit", who, join(start), editOf, api.OK, false},
 			act{"Edit refused", who, join(start), func(c *Client) api.Errno { _, e := c.Edit(api.Op{}); return e }, api.ErrArg, true},

@@ -2,6 +2,7 @@ package client
 
 import (
 	"fmt"
+	"math/rand"
 	"reflect"
 	"slices"
 	"strings"
@@ -1052,6 +1053,9 @@ func TestSnapshotsThatAreNone(t *testing.T) {
 		"33 chains":                     with(func(x *content) { x.chains = append([]string{text(32)}, x.chains...) }),
 		"a chain of 31 bytes":           with(func(x *content) { x.chains[3] = text(31) }),
 		"no key":                        with(func(x *content) { x.key = "" }),
+		"no key, nor one ahead":         with(func(x *content) { x.ahead, x.key = "", "" }),
+		"a key of 31 bytes, none ahead": with(func(x *content) { x.ahead, x.key = "", text(31) }),
+		"a key of 33 bytes":             with(func(x *content) { x.key = text(33) }),
 		"a key of 31 bytes":             with(func(x *content) { x.key = text(31) }),
 		"a key of 31 bytes, ahead":      with(func(x *content) { x.ahead = text(31) }),
 		"no group":                      says(strings.Replace(good, putGroup(x.group), "\x00\x00", 1)),
@@ -1383,5 +1387,81 @@ func TestTimesOfASnapshot(t *testing.T) {
 			want = api.Stamp{}
 		}
 		settled(t, b, c, 65-of2, want)
+	}
+}
+
+// Whatever a content tells, that was sealed as one is: it is taken, and then left so on the device, or nothing changes.
+func TestDrawnContents(t *testing.T) {
+	draw := rand.New(rand.NewSource(7))
+	b := long(t, vault.Real())
+	n := b.many()
+	var told [2]int
+	for range 1000 {
+		x := b.content(n)
+		x.chains, x.group.Members = slices.Clone(x.chains), slices.Clone(x.group.Members)
+		for range draw.Intn(4) {
+			turnContent(draw, &x)
+		}
+		s := []byte(b.contentBytes(x))
+		if draw.Intn(4) == 0 {
+			s[draw.Intn(len(s))] ^= byte(1 << draw.Intn(8))
+		}
+		who := 1 + draw.Intn(3)
+		c := client(t, b.seal, who)
+		if draw.Intn(3) == 0 {
+			c = b.until(n - 1 - draw.Intn(5)).member(who)
+			edit(t, c, "waits")
+			send(t, c)
+		}
+		was := whole(c)
+		e := c.Hear(asBytes(t, api.Frame{Kind: api.FrameSnap, Seq: n, Epoch: 4, Blob: b.snapBlob(4, n, b.now().group, string(s))}))
+		again := open(t, c.device, b.seal, who)
+		if whole(again) != whole(c) || e == api.ErrSeal && whole(c) != was {
+			t.Fatalf("%d: it is opened anew as another one: %s", e, short(x))
+		}
+		if e == api.OK {
+			told[0]++
+			if l := c.Epochs(); !c.Joined() || c.Tampered() || len(l) == 0 || l[len(l)-1] != 4 {
+				t.Fatalf("joined %t, with the keys of %v", c.Joined(), l)
+			}
+		}
+		if e == api.ErrSeal {
+			told[1]++
+		}
+		callAll(c)
+	}
+	if told[0] < 100 || told[1] < 100 {
+		t.Error("too few:", told)
+	}
+}
+
+// turnContent lets a part of a content be another one.
+func turnContent(draw *rand.Rand, x *content) {
+	keys := []string{"", text(32), text(31), key(3), key(4)}
+	m := &x.group.Members[draw.Intn(6)]
+	switch draw.Intn(12) {
+	case 0, 1:
+		x.key = keys[draw.Intn(len(keys))]
+	case 2, 3:
+		x.ahead = keys[draw.Intn(len(keys))]
+	case 4:
+		x.ahead, x.key = "", keys[draw.Intn(len(keys))]
+	case 5:
+		x.chains = x.chains[draw.Intn(len(x.chains)+1):]
+	case 6:
+		if len(x.chains) > 0 {
+			x.chains[draw.Intn(len(x.chains))] = text(30 + draw.Intn(4))
+		}
+	case 7:
+		m.In = !m.In
+	case 8:
+		m.Count = []int{0, 1, maxTime - 1, maxTime}[draw.Intn(4)]
+	case 9:
+		x.group.Ops = draw.Intn(501)
+	case 10:
+		x.times[draw.Intn(6)] = []int{0, 1, maxTime - 1, maxTime}[draw.Intn(4)]
+	case 11:
+		base := api.Stamp{Time: 9999, Who: 6}
+		x.tree = []api.Snap{{}, {Base: base}, {Nodes: nodesOf(x.tree.Ops), Base: base}}[draw.Intn(3)]
 	}
 }

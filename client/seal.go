@@ -154,5 +154,5 @@ func (c *Client) told(s *state, f api.Frame) (past, bool) {
 	if e != api.OK {
 		return past{}, false
 	}
-	return takePast(text)
+	return takeContent(text)
 }

@@ -242,6 +242,16 @@ func takePast(s string) (past, bool) {
 	return p, true
 }
 
+// takeContent is what the bytes in a snapshot tell; false, if they are no content: a client may have no key, but a
+// snapshot, which a member has sealed, always tells that of its epoch.
+func takeContent(s string) (past, bool) {
+	p, ok := takePast(s)
+	if !ok || p.key == "" {
+		return past{}, false
+	}
+	return p, true
+}
+
 // areChains tells whether chains are the last ones of so many records.
 func areChains(l []string, many int) bool {
 	if len(l) == 0 || len(l) > min(mostChains, many+1) {
